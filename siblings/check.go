@@ -1,0 +1,29 @@
+package siblings
+
+import (
+	"slices"
+
+	"siblings/api"
+)
+
+func isKey(key string) bool { return len(key) >= 1 && len(key) <= api.MaxKey }
+
+func isMode(mode api.Mode) bool {
+	return mode == api.Fast || mode == api.Small || mode == api.Mixed
+}
+
+func checkItems(items []api.Item) api.Errno {
+	if len(items) < 1 || len(items) > api.MaxItems {
+		return api.ErrSize
+	}
+	for i, item := range items {
+		if !isKey(item.Key) || len(item.Value) > api.MaxValue {
+			return api.ErrKey
+		}
+		sameKey := func(ahead api.Item) bool { return ahead.Key == item.Key }
+		if slices.ContainsFunc(items[:i], sameKey) {
+			return api.ErrTwice
+		}
+	}
+	return api.OK
+}

@@ -1,0 +1,194 @@
+package siblings
+
+import (
+	"math"
+	"runtime"
+	"slices"
+	"strings"
+	"sync"
+	"testing"
+	"unsafe"
+
+	"siblings/api"
+)
+
+func TestAllNumbersP1(t *testing.T) {
+	s := newStore(t, 4)
+	begin(t, s, 1, "a") // on part 1
+	numbers := []int{math.MinInt, math.MinInt32, -4, -3, -1, 0, 2, 3, 4, 5, 1 << 32, 1<<32 + 1, math.MaxInt}
+	for _, n := range numbers {
+		wantErrno(t, "Prepare of no write", s.Prepare(n, 1), api.ErrNone)
+		wantErrno(t, "Commit of no write", s.Commit(n, 1), api.ErrNone)
+		wantErrno(t, "Cancel of no write", s.Cancel(n), api.ErrNone)
+		wantErrno(t, "Prepare on no part of it", s.Prepare(1, n), api.ErrPart)
+		wantErrno(t, "Commit on no part of it", s.Commit(1, n), api.ErrPart)
+	}
+	wantErrno(t, "Prepare behind all that", s.Prepare(1, 1), api.OK)
+	wantErrno(t, "Commit behind all that", s.Commit(1, 1), api.OK)
+	wantVisible(t, s, "a", 1)
+}
+
+func TestAllTextsP1(t *testing.T) {
+	s := newStore(t, 3)
+	next := 1
+	for size := range 70 {
+		for _, filler := range []string{"\x00", "a", "\x80", "\xff"} {
+			text := strings.Repeat(filler, size)
+			_, e := s.Part(text)
+			isNone := size < 1 || size > 8
+			wantErrno(t, "Part", e, map[bool]api.Errno{true: api.ErrKey, false: api.OK}[isNone])
+			if isNone {
+				wantWrite(t, s, []api.Item{{Key: text}}, 0, api.ErrKey)
+			} else {
+				wantWrite(t, s, []api.Item{{Key: text, Value: text}}, next, api.OK)
+				next++
+			}
+			if size > 64 {
+				wantWrite(t, s, []api.Item{{Key: "a", Value: text}}, 0, api.ErrKey)
+			}
+		}
+	}
+}
+
+func TestErrorsChangeNothingP1(t *testing.T) {
+	s := newStore(t, 2) // a: 1, b: 0
+	begin(t, s, 1, "a", "b")
+	wantErrno(t, "Prepare", s.Prepare(1, 1), api.OK)
+	wantErrno(t, "Prepare again", s.Prepare(1, 1), api.ErrDone)
+	wantErrno(t, "Commit too early", s.Commit(1, 1), api.ErrOrder)
+	wantWrite(t, s, []api.Item{{Key: "a", Value: "other"}, {}}, 0, api.ErrKey)
+	wantVisible(t, s, "a", 0)
+	wantKept(t, s, 1, "a", "a", true)
+	wantErrno(t, "Prepare", s.Prepare(1, 0), api.OK)
+	wantErrno(t, "Commit", s.Commit(1, 1), api.OK)
+	wantErrno(t, "Cancel too late", s.Cancel(1), api.ErrOrder)
+	wantKept(t, s, 1, "b", "b", true)
+	wantErrno(t, "Commit on the other part, behind a late Cancel", s.Commit(1, 0), api.OK)
+	begin(t, s, 2, "a")
+}
+
+func TestListIsNotChangedP1(t *testing.T) {
+	behind := []api.Item{{Key: "c", Value: "3"}, {Key: "a", Value: "1"}, {Key: "b", Value: "2"}, {Key: "spare", Value: "room"}}
+	before := slices.Clone(behind)
+	s := newStore(t, 2)
+	wantWrite(t, s, behind[:3], 1, api.OK)
+	wantErrno(t, "Prepare", s.Prepare(1, 0), api.OK)
+	wantErrno(t, "Prepare", s.Prepare(1, 1), api.OK)
+	wantErrno(t, "Commit", s.Commit(1, 1), api.OK)
+	if !slices.Equal(behind, before) {
+		t.Errorf("the list is %q now", behind)
+	}
+}
+
+// text is a string whose bytes the test can change afterwards, as no honest caller could: so it shows if they are kept.
+func text(of []byte) string { return unsafe.String(&of[0], len(of)) }
+
+func TestListAndBytesAreNotKeptP1(t *testing.T) {
+	for _, preparedFirst := range []bool{false, true} {
+		s := newStore(t, 2) // a: 1, b: 0
+		key, value := []byte("a"), []byte("one")
+		items := []api.Item{{Key: text(key), Value: text(value)}, {Key: "b", Value: "two"}}
+		wantWrite(t, s, items, 1, api.OK)
+		if preparedFirst {
+			wantErrno(t, "Prepare", s.Prepare(1, 1), api.OK)
+			wantErrno(t, "Prepare", s.Prepare(1, 0), api.OK)
+		}
+		copy(key, "z")
+		copy(value, "xxx")
+		items[1] = api.Item{Key: "d", Value: "four"}
+		if !preparedFirst {
+			wantErrno(t, "Prepare", s.Prepare(1, 1), api.OK)
+			wantErrno(t, "Prepare", s.Prepare(1, 0), api.OK)
+		}
+		wantErrno(t, "Commit", s.Commit(1, 0), api.OK)
+		wantErrno(t, "Commit", s.Commit(1, 1), api.OK)
+		wantKept(t, s, 1, "a", "one", true)
+		wantKept(t, s, 1, "b", "two", true)
+		wantKept(t, s, 1, "d", "", false)
+		wantVisible(t, s, "a", 1)
+		wantVisible(t, s, "b", 1)
+	}
+}
+
+func TestStoresAreApartP1(t *testing.T) {
+	one, two := newStore(t, 2), newStore(t, 2)
+	begin(t, one, 1, "a")
+	wantErrno(t, "Prepare in the other store", two.Prepare(1, 1), api.ErrNone)
+	begin(t, two, 1, "a")
+	wantErrno(t, "Prepare", one.Prepare(1, 1), api.OK)
+	wantErrno(t, "Commit in the other store", two.Commit(1, 1), api.ErrOrder)
+	wantErrno(t, "Commit", one.Commit(1, 1), api.OK)
+	wantVisible(t, one, "a", 1)
+	wantVisible(t, two, "a", 0)
+	wantErrno(t, "Cancel in the other store", two.Cancel(1), api.OK)
+	wantErrno(t, "Commit again", one.Commit(1, 1), api.ErrDone)
+}
+
+func TestNoGoroutineIsLeftP1(t *testing.T) {
+	before := runtime.NumGoroutine()
+	s := newStore(t, 2)
+	begin(t, s, 1, "a", "b")
+	begin(t, s, 2, "a")
+	wantErrno(t, "Prepare", s.Prepare(1, 0), api.OK)
+	wantErrno(t, "Prepare", s.Prepare(1, 1), api.OK)
+	wantErrno(t, "Commit", s.Commit(1, 0), api.OK)
+	wantErrno(t, "Cancel", s.Cancel(2), api.OK)
+	if after := runtime.NumGoroutine(); after > before {
+		t.Errorf("%d goroutines, %d before", after, before)
+	}
+}
+
+func TestNumbersAtOnceP3(t *testing.T) {
+	s := newStore(t, 4)
+	got := make([]int, api.MaxWrites+40)
+	var all sync.WaitGroup
+	for i := range got {
+		all.Go(func() { got[i], _ = s.Write(api.Item{Key: "a"}, api.Item{Key: "b"}) })
+	}
+	all.Wait()
+	slices.Sort(got)
+	for i, n := range got {
+		if n != max(0, i-39) {
+			t.Fatalf("the numbers are %v", got)
+		}
+	}
+}
+
+func TestCommitOrCancelAtOnceP3(t *testing.T) {
+	s := newStore(t, 2)
+	for n := 1; n <= api.MaxWrites; n++ {
+		begin(t, s, n, "a", "b")
+		var commits [2]api.Errno
+		var cancels [2]api.Errno
+		var all sync.WaitGroup
+		wantErrno(t, "Prepare", s.Prepare(n, 0), api.OK)
+		wantErrno(t, "Prepare", s.Prepare(n, 1), api.OK)
+		for i := range 2 {
+			all.Go(func() { commits[i] = s.Commit(n, i) })
+			all.Go(func() { cancels[i] = s.Cancel(n) })
+		}
+		all.Wait()
+		slices.Sort(cancels[:])
+		isCommitted := commits == [2]api.Errno{} && cancels == [2]api.Errno{api.ErrOrder, api.ErrOrder}
+		isCancelled := commits == [2]api.Errno{api.ErrNone, api.ErrNone} && cancels == [2]api.Errno{api.OK, api.ErrNone}
+		if isCommitted == isCancelled {
+			t.Fatalf("Commit = %v, Cancel = %v", commits, cancels)
+		}
+		wantKept(t, s, n, "a", map[bool]string{true: "a"}[isCommitted], isCommitted)
+	}
+}
+
+func TestPrepareAtOnceP3(t *testing.T) {
+	s := newStore(t, 2)
+	begin(t, s, 1, "a")
+	got := make([]api.Errno, 20)
+	var all sync.WaitGroup
+	for i := range got {
+		all.Go(func() { got[i] = s.Prepare(1, 1) })
+	}
+	all.Wait()
+	slices.Sort(got)
+	if got[0] != api.OK || got[1] != api.ErrDone || got[19] != api.ErrDone {
+		t.Errorf("Prepare at once = %v", got)
+	}
+}

@@ -1,0 +1,128 @@
+// Package siblings: what was written together is read together, though nobody waits: see DOC.md.
+package siblings
+
+import (
+	"sync"
+
+	"siblings/api"
+	"siblings/keep"
+)
+
+// Store keeps values by keys on some parts.
+type Store struct {
+	mode  api.Mode
+	parts []*keep.Part // the list is never changed, so it needs no mutex
+
+	mu     sync.Mutex // guards what follows
+	begun  int
+	writes map[int]*write // by number: those that were begun and not cancelled
+}
+
+// New makes an empty store (P2).
+func New(parts int, mode api.Mode) (*Store, api.Errno) {
+	if parts < 1 || parts > api.MaxParts {
+		return nil, api.ErrParts
+	}
+	if !isMode(mode) {
+		return nil, api.ErrMode
+	}
+	s := &Store{mode: mode, writes: map[int]*write{}}
+	for range parts {
+		s.parts = append(s.parts, keep.NewPart())
+	}
+	return s, api.OK
+}
+
+// Part tells a key's part (P2).
+func (s *Store) Part(key string) (int, api.Errno) {
+	if !isKey(key) {
+		return 0, api.ErrKey
+	}
+	return s.partOf(key), api.OK
+}
+
+// Write begins a write (P3).
+func (s *Store) Write(items ...api.Item) (int, api.Errno) {
+	if e := checkItems(items); e != api.OK {
+		return 0, e
+	}
+	s.mu.Lock()
+	defer s.mu.Unlock()
+	if s.begun >= api.MaxWrites {
+		return 0, api.ErrFull
+	}
+	s.begun++
+	s.writes[s.begun] = s.newWrite(s.begun, items)
+	return s.begun, api.OK
+}
+
+// Prepare prepares a write on a part (P3).
+func (s *Store) Prepare(write int, part int) api.Errno {
+	found, ok := s.find(write)
+	if !ok {
+		return api.ErrNone
+	}
+	return found.prepare(part)
+}
+
+// Commit commits a write on a part (P3).
+func (s *Store) Commit(write int, part int) api.Errno {
+	found, ok := s.find(write)
+	if !ok {
+		return api.ErrNone
+	}
+	return found.commit(part)
+}
+
+// Cancel cancels a write (P3).
+func (s *Store) Cancel(write int) api.Errno {
+	found, ok := s.find(write)
+	if !ok {
+		return api.ErrNone
+	}
+	if e := found.cancel(); e != api.OK {
+		return e
+	}
+	s.forget(write)
+	return api.OK
+}
+
+// Read begins a read (P4).
+func (s *Store) Read(keys ...string) (int, api.Errno) { return 0, api.OK }
+
+// Ask asks for a key (P4).
+func (s *Store) Ask(read int, key string) api.Errno { return api.OK }
+
+// Finish tells the answers (P5).
+func (s *Store) Finish(read int) ([]api.Answer, int, api.Errno) { return nil, 0, api.OK }
+
+func (s *Store) partOf(key string) int {
+	sum := 0
+	for _, b := range []byte(key) {
+		sum += int(b)
+	}
+	return sum % len(s.parts)
+}
+
+func (s *Store) newWrite(number int, items []api.Item) *write {
+	w := &write{number: number, shares: map[int]*share{}}
+	for _, item := range items {
+		part := s.partOf(item.Key)
+		w.add(part, s.parts[part], item)
+	}
+	return w
+}
+
+// find lets the mutex go before the write is worked on, so that a long look at one write stops no other.
+func (s *Store) find(number int) (*write, bool) {
+	s.mu.Lock()
+	defer s.mu.Unlock()
+	found, ok := s.writes[number]
+	return found, ok
+}
+
+func (s *Store) forget(number int) {
+	s.mu.Lock()
+	defer s.mu.Unlock()
+	delete(s.writes, number)
+}
