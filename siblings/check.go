@@ -12,8 +12,10 @@ func isMode(mode api.Mode) bool {
 	return mode == api.Fast || mode == api.Small || mode == api.Mixed
 }
 
+func isSize(size int) bool { return size >= 1 && size <= api.MaxItems }
+
 func checkItems(items []api.Item) api.Errno {
-	if len(items) < 1 || len(items) > api.MaxItems {
+	if !isSize(len(items)) {
 		return api.ErrSize
 	}
 	for i, item := range items {
@@ -22,6 +24,21 @@ func checkItems(items []api.Item) api.Errno {
 		}
 		sameKey := func(ahead api.Item) bool { return ahead.Key == item.Key }
 		if slices.ContainsFunc(items[:i], sameKey) {
+			return api.ErrTwice
+		}
+	}
+	return api.OK
+}
+
+func checkKeys(keys []string) api.Errno {
+	if !isSize(len(keys)) {
+		return api.ErrSize
+	}
+	for i, key := range keys {
+		if !isKey(key) {
+			return api.ErrKey
+		}
+		if slices.Contains(keys[:i], key) {
 			return api.ErrTwice
 		}
 	}

@@ -6,6 +6,7 @@ import (
 	"slices"
 	"strings"
 	"sync"
+	"sync/atomic"
 	"testing"
 	"unsafe"
 
@@ -15,6 +16,7 @@ import (
 func TestAllNumbersP1(t *testing.T) {
 	s := newStore(t, 4)
 	begin(t, s, 1, "a") // on part 1
+	wantRead(t, s, []string{"a"}, 1, api.OK)
 	numbers := []int{math.MinInt, math.MinInt32, -4, -3, -1, 0, 2, 3, 4, 5, 1 << 32, 1<<32 + 1, math.MaxInt}
 	for _, n := range numbers {
 		wantErrno(t, "Prepare of no write", s.Prepare(n, 1), api.ErrNone)
@@ -22,10 +24,12 @@ func TestAllNumbersP1(t *testing.T) {
 		wantErrno(t, "Cancel of no write", s.Cancel(n), api.ErrNone)
 		wantErrno(t, "Prepare on no part of it", s.Prepare(1, n), api.ErrPart)
 		wantErrno(t, "Commit on no part of it", s.Commit(1, n), api.ErrPart)
+		wantErrno(t, "Ask of no read", s.Ask(n, "a"), api.ErrNone)
 	}
 	wantErrno(t, "Prepare behind all that", s.Prepare(1, 1), api.OK)
 	wantErrno(t, "Commit behind all that", s.Commit(1, 1), api.OK)
 	wantVisible(t, s, "a", 1)
+	wantErrno(t, "Ask behind all that", s.Ask(1, "a"), api.OK)
 }
 
 func TestAllTextsP1(t *testing.T) {
@@ -50,6 +54,25 @@ func TestAllTextsP1(t *testing.T) {
 	}
 }
 
+func TestAllTextsOfReadsP1(t *testing.T) {
+	s := newStore(t, 3)
+	wantRead(t, s, []string{"other"}, 1, api.OK)
+	next := 2
+	for size := range 70 {
+		for _, filler := range []string{"\x00", "a", "\x80", "\xff"} {
+			text := strings.Repeat(filler, size)
+			wantErrno(t, "Ask of another key", s.Ask(1, text), api.ErrKey)
+			if size < 1 || size > 8 {
+				wantRead(t, s, []string{text}, 0, api.ErrKey)
+				continue
+			}
+			wantRead(t, s, []string{text}, next, api.OK)
+			wantErrno(t, "Ask", s.Ask(next, text), api.OK)
+			next++
+		}
+	}
+}
+
 func TestErrorsChangeNothingP1(t *testing.T) {
 	s := newStore(t, 2) // a: 1, b: 0
 	begin(t, s, 1, "a", "b")
@@ -65,6 +88,31 @@ func TestErrorsChangeNothingP1(t *testing.T) {
 	wantKept(t, s, 1, "b", "b", true)
 	wantErrno(t, "Commit on the other part, behind a late Cancel", s.Commit(1, 0), api.OK)
 	begin(t, s, 2, "a")
+}
+
+func TestErrorsOfReadsChangeNothingP1(t *testing.T) {
+	s := newStore(t, 2) // a: 1, b: 0
+	begin(t, s, 1, "a")
+	wantErrno(t, "Prepare", s.Prepare(1, 1), api.OK)
+	wantRead(t, s, []string{"a", "b", "a"}, 0, api.ErrTwice)
+	wantRead(t, s, []string{"a", "b"}, 1, api.OK)
+	wantErrno(t, "Ask of another key", s.Ask(1, "c"), api.ErrKey)
+	wantErrno(t, "Ask of no read", s.Ask(2, "a"), api.ErrNone)
+	wantNotAsked(t, s, 1, "a")
+	wantErrno(t, "Ask", s.Ask(1, "a"), api.OK)
+	wantErrno(t, "Commit", s.Commit(1, 1), api.OK)
+	wantErrno(t, "Ask again", s.Ask(1, "a"), api.ErrDone)
+	wantErrno(t, "Ask of a key that was refused ahead", s.Ask(1, "c"), api.ErrKey)
+	wantCandidate(t, s, 1, "a", 0)
+	wantNotAsked(t, s, 1, "b")
+	for n := 2; n <= 50; n++ {
+		wantRead(t, s, []string{"a"}, n, api.OK)
+	}
+	for range 3 {
+		wantRead(t, s, []string{"a"}, 0, api.ErrFull)
+	}
+	delete(s.reads, 1)
+	wantRead(t, s, []string{"a"}, 51, api.OK)
 }
 
 func TestListIsNotChangedP1(t *testing.T) {
@@ -110,6 +158,35 @@ func TestListAndBytesAreNotKeptP1(t *testing.T) {
 	}
 }
 
+func TestListOfKeysIsNotChangedP1(t *testing.T) {
+	behind := []string{"c", "a", "b", "spare"}
+	before := slices.Clone(behind)
+	s := newStore(t, 2)
+	wantRead(t, s, behind[:3], 1, api.OK)
+	wantErrno(t, "Ask", s.Ask(1, "b"), api.OK)
+	wantErrno(t, "Ask of what stands behind the list", s.Ask(1, "spare"), api.ErrKey)
+	if !slices.Equal(behind, before) {
+		t.Errorf("the list is %q now", behind)
+	}
+}
+
+func TestListOfKeysAndBytesAreNotKeptP1(t *testing.T) {
+	s := newStore(t, 2) // a: 1, b: 0
+	key, asked := []byte("a"), []byte("b")
+	keys := []string{text(key), "b", "c"}
+	wantRead(t, s, keys, 1, api.OK)
+	copy(key, "z")
+	keys[2] = "d"
+	wantErrno(t, "Ask of a key whose bytes have changed", s.Ask(1, "a"), api.OK)
+	wantErrno(t, "Ask of what they are now", s.Ask(1, "z"), api.ErrKey)
+	wantErrno(t, "Ask of a key whose place in the list has changed", s.Ask(1, "c"), api.OK)
+	wantErrno(t, "Ask of what stands there now", s.Ask(1, "d"), api.ErrKey)
+	wantErrno(t, "Ask", s.Ask(1, text(asked)), api.OK)
+	copy(asked, "y")
+	wantErrno(t, "Ask again, the bytes of what was asked having changed", s.Ask(1, "b"), api.ErrDone)
+	wantErrno(t, "Ask of what they are now", s.Ask(1, "y"), api.ErrKey)
+}
+
 func TestStoresAreApartP1(t *testing.T) {
 	one, two := newStore(t, 2), newStore(t, 2)
 	begin(t, one, 1, "a")
@@ -122,6 +199,13 @@ func TestStoresAreApartP1(t *testing.T) {
 	wantVisible(t, two, "a", 0)
 	wantErrno(t, "Cancel in the other store", two.Cancel(1), api.OK)
 	wantErrno(t, "Commit again", one.Commit(1, 1), api.ErrDone)
+	wantRead(t, one, []string{"a"}, 1, api.OK)
+	wantErrno(t, "Ask in the other store", two.Ask(1, "a"), api.ErrNone)
+	wantRead(t, two, []string{"a"}, 1, api.OK)
+	wantErrno(t, "Ask in the other store", two.Ask(1, "a"), api.OK)
+	wantErrno(t, "Ask", one.Ask(1, "a"), api.OK)
+	wantCandidate(t, one, 1, "a", 1)
+	wantCandidate(t, two, 1, "a", 0)
 }
 
 func TestNoGoroutineIsLeftP1(t *testing.T) {
@@ -133,6 +217,9 @@ func TestNoGoroutineIsLeftP1(t *testing.T) {
 	wantErrno(t, "Prepare", s.Prepare(1, 1), api.OK)
 	wantErrno(t, "Commit", s.Commit(1, 0), api.OK)
 	wantErrno(t, "Cancel", s.Cancel(2), api.OK)
+	wantRead(t, s, []string{"a", "b"}, 1, api.OK)
+	wantErrno(t, "Ask", s.Ask(1, "a"), api.OK)
+	wantErrno(t, "Ask", s.Ask(1, "b"), api.OK)
 	if after := runtime.NumGoroutine(); after > before {
 		t.Errorf("%d goroutines, %d before", after, before)
 	}
@@ -190,5 +277,74 @@ func TestPrepareAtOnceP3(t *testing.T) {
 	slices.Sort(got)
 	if got[0] != api.OK || got[1] != api.ErrDone || got[19] != api.ErrDone {
 		t.Errorf("Prepare at once = %v", got)
+	}
+}
+
+func TestNumbersAtOnceP4(t *testing.T) {
+	s := newStore(t, 4)
+	got := make([]int, api.MaxReads+40)
+	var all sync.WaitGroup
+	for i := range got {
+		all.Go(func() { got[i], _ = s.Read("a", "b") })
+	}
+	all.Wait()
+	slices.Sort(got)
+	for i, n := range got {
+		if n != max(0, i-39) {
+			t.Fatalf("the numbers are %v", got)
+		}
+	}
+}
+
+// asksAtOnce asks for one key again and again at the same time, and counts the questions that were taken.
+func asksAtOnce(s *Store, read int, key string) int {
+	var start, all sync.WaitGroup
+	var taken atomic.Int64
+	start.Add(1)
+	for range 8 {
+		all.Go(func() {
+			start.Wait()
+			if s.Ask(read, key) == api.OK {
+				taken.Add(1)
+			}
+		})
+	}
+	start.Done()
+	all.Wait()
+	return int(taken.Load())
+}
+
+func TestAskAtOnceP4(t *testing.T) {
+	for range 400 { // the wrong moment is short: few rounds would seldom meet it
+		s := newStore(t, 2)
+		for n := 1; n <= api.MaxReads; n++ {
+			wantRead(t, s, []string{"a", "b"}, n, api.OK)
+			if taken := asksAtOnce(s, n, "a"); taken != 1 {
+				t.Fatalf("of 8 questions at once %d were taken, want 1", taken)
+			}
+			wantNotAsked(t, s, n, "b")
+		}
+	}
+}
+
+func TestAskWhileOthersCommitP4(t *testing.T) {
+	s := newStore(t, 1)
+	for n := 1; n <= api.MaxReads; n++ {
+		begin(t, s, n, "a")
+		wantErrno(t, "Prepare", s.Prepare(n, 0), api.OK)
+		wantRead(t, s, []string{"a"}, n, api.OK)
+	}
+	var all sync.WaitGroup
+	for n := 1; n <= api.MaxReads; n++ {
+		all.Go(func() {
+			wantErrno(t, "Commit", s.Commit(n, 0), api.OK)
+			wantErrno(t, "Ask", s.Ask(n, "a"), api.OK)
+		})
+	}
+	all.Wait()
+	for n, r := range s.reads {
+		if got := r.questions["a"].candidate; got < n || got > api.MaxReads {
+			t.Errorf("asked behind the commit of write %d, the candidate is %d", n, got)
+		}
 	}
 }

@@ -52,3 +52,24 @@ func wantKept(t *testing.T, s *Store, write int, key, want string, wantOK bool) 
 		t.Errorf("of write %d, key %q, is kept %q, %v, want %q, %v", write, key, got, ok, want, wantOK)
 	}
 }
+
+func wantRead(t *testing.T, s *Store, keys []string, want int, wantE api.Errno) {
+	t.Helper()
+	if n, e := s.Read(keys...); n != want || e != wantE {
+		t.Errorf("Read(%.80q) = %d, %d, want %d, %d", keys, n, e, want, wantE)
+	}
+}
+
+func wantCandidate(t *testing.T, s *Store, read int, key string, want int) {
+	t.Helper()
+	if q := s.reads[read].questions[key]; !q.asked || q.candidate != want {
+		t.Errorf("of read %d, key %q, asked is %v, the candidate %d, want %d", read, key, q.asked, q.candidate, want)
+	}
+}
+
+func wantNotAsked(t *testing.T, s *Store, read int, key string) {
+	t.Helper()
+	if q := s.reads[read].questions[key]; q.asked || q.candidate != 0 {
+		t.Errorf("of read %d, key %q, asked is %v, the candidate %d, want none", read, key, q.asked, q.candidate)
+	}
+}

@@ -2,6 +2,7 @@ package siblings
 
 import (
 	"math/rand"
+	"slices"
 	"testing"
 
 	"siblings/api"
@@ -14,9 +15,16 @@ type modelWrite struct {
 	prepared, committed [api.MaxParts]bool
 }
 
+// modelRead says again what P4 says of a read.
+type modelRead struct {
+	keys       []string
+	candidates map[string]int // by key: of those that were asked
+}
+
 type model struct {
 	parts  int
 	writes []modelWrite
+	reads  []modelRead
 }
 
 func (m *model) partOf(key string) int { return int(key[0]) % m.parts }
@@ -108,6 +116,21 @@ func (m *model) keeps(write int, key string) bool {
 	return false
 }
 
+func (m *model) ask(read int, key string) api.Errno {
+	if read < 1 || read > len(m.reads) {
+		return api.ErrNone
+	}
+	r := m.reads[read-1]
+	if !slices.Contains(r.keys, key) {
+		return api.ErrKey
+	}
+	if _, asked := r.candidates[key]; asked {
+		return api.ErrDone
+	}
+	r.candidates[key] = m.visible(key)
+	return api.OK
+}
+
 var modelKeys = []string{"a", "b", "c", "d", "e", "f"}
 
 func someKeys(r *rand.Rand) []string {
@@ -130,16 +153,30 @@ func compare(t *testing.T, s *Store, m *model) {
 			wantKept(t, s, n, key, want, kept)
 		}
 	}
+	compareReads(t, s, m)
 }
 
-func TestAgainstModelP3(t *testing.T) {
+func compareReads(t *testing.T, s *Store, m *model) {
+	t.Helper()
+	for i, r := range m.reads {
+		for _, key := range r.keys {
+			if candidate, asked := r.candidates[key]; asked {
+				wantCandidate(t, s, i+1, key, candidate)
+			} else {
+				wantNotAsked(t, s, i+1, key)
+			}
+		}
+	}
+}
+
+func TestAgainstModelP3P4(t *testing.T) {
 	for seed := range int64(80) {
 		r := rand.New(rand.NewSource(seed))
 		m := &model{parts: 1 + int(seed)%api.MaxParts}
 		s := newStore(t, m.parts)
 		for range 300 {
 			write, part := r.Intn(len(m.writes)+2), r.Intn(m.parts+2)-1
-			switch step := r.Intn(20); {
+			switch step := r.Intn(30); {
 			case step < 1 && len(m.writes) < api.MaxWrites:
 				keys := someKeys(r)
 				m.writes = append(m.writes, modelWrite{keys: keys})
@@ -148,8 +185,15 @@ func TestAgainstModelP3(t *testing.T) {
 				wantErrno(t, "Prepare", s.Prepare(write, part), m.prepare(write, part))
 			case step < 19:
 				wantErrno(t, "Commit", s.Commit(write, part), m.commit(write, part))
-			default:
+			case step < 20:
 				wantErrno(t, "Cancel", s.Cancel(write), m.cancel(write))
+			case step < 21 && len(m.reads) < api.MaxReads:
+				keys := someKeys(r)
+				m.reads = append(m.reads, modelRead{keys: keys, candidates: map[string]int{}})
+				wantRead(t, s, keys, len(m.reads), api.OK)
+			default:
+				read, key := r.Intn(len(m.reads)+2), modelKeys[r.Intn(len(modelKeys))]
+				wantErrno(t, "Ask", s.Ask(read, key), m.ask(read, key))
 			}
 			compare(t, s, m)
 		}

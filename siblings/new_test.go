@@ -32,8 +32,10 @@ func TestNewIsEmptyP2(t *testing.T) {
 		wantErrno(t, "Prepare of no write", s.Prepare(1, 0), api.ErrNone)
 		wantErrno(t, "Commit of no write", s.Commit(1, 0), api.ErrNone)
 		wantErrno(t, "Cancel of no write", s.Cancel(1), api.ErrNone)
+		wantErrno(t, "Ask of no read", s.Ask(1, "a"), api.ErrNone)
 		wantVisible(t, s, "a", 0)
 		begin(t, s, 1, "a")
+		wantRead(t, s, []string{"a"}, 1, api.OK)
 	}
 }
 

@@ -13,9 +13,11 @@ type Store struct {
 	mode  api.Mode
 	parts []*keep.Part // the list is never changed, so it needs no mutex
 
-	mu     sync.Mutex // guards what follows
-	begun  int
-	writes map[int]*write // by number: those that were begun and not cancelled
+	mu        sync.Mutex // guards what follows
+	lastWrite int
+	lastRead  int
+	writes    map[int]*write // by number: those that were begun and not cancelled
+	reads     map[int]*read  // by number: those that were begun and not finished
 }
 
 // New makes an empty store (P2).
@@ -26,7 +28,7 @@ func New(parts int, mode api.Mode) (*Store, api.Errno) {
 	if !isMode(mode) {
 		return nil, api.ErrMode
 	}
-	s := &Store{mode: mode, writes: map[int]*write{}}
+	s := &Store{mode: mode, writes: map[int]*write{}, reads: map[int]*read{}}
 	for range parts {
 		s.parts = append(s.parts, keep.NewPart())
 	}
@@ -48,17 +50,17 @@ func (s *Store) Write(items ...api.Item) (int, api.Errno) {
 	}
 	s.mu.Lock()
 	defer s.mu.Unlock()
-	if s.begun >= api.MaxWrites {
+	if s.lastWrite >= api.MaxWrites {
 		return 0, api.ErrFull
 	}
-	s.begun++
-	s.writes[s.begun] = s.newWrite(s.begun, items)
-	return s.begun, api.OK
+	s.lastWrite++
+	s.writes[s.lastWrite] = s.newWrite(s.lastWrite, items)
+	return s.lastWrite, api.OK
 }
 
 // Prepare prepares a write on a part (P3).
 func (s *Store) Prepare(write int, part int) api.Errno {
-	found, ok := s.find(write)
+	found, ok := s.findWrite(write)
 	if !ok {
 		return api.ErrNone
 	}
@@ -67,7 +69,7 @@ func (s *Store) Prepare(write int, part int) api.Errno {
 
 // Commit commits a write on a part (P3).
 func (s *Store) Commit(write int, part int) api.Errno {
-	found, ok := s.find(write)
+	found, ok := s.findWrite(write)
 	if !ok {
 		return api.ErrNone
 	}
@@ -76,22 +78,40 @@ func (s *Store) Commit(write int, part int) api.Errno {
 
 // Cancel cancels a write (P3).
 func (s *Store) Cancel(write int) api.Errno {
-	found, ok := s.find(write)
+	found, ok := s.findWrite(write)
 	if !ok {
 		return api.ErrNone
 	}
 	if e := found.cancel(); e != api.OK {
 		return e
 	}
-	s.forget(write)
+	s.forgetWrite(write)
 	return api.OK
 }
 
 // Read begins a read (P4).
-func (s *Store) Read(keys ...string) (int, api.Errno) { return 0, api.OK }
+func (s *Store) Read(keys ...string) (int, api.Errno) {
+	if e := checkKeys(keys); e != api.OK {
+		return 0, e
+	}
+	s.mu.Lock()
+	defer s.mu.Unlock()
+	if len(s.reads) >= api.MaxReads {
+		return 0, api.ErrFull
+	}
+	s.lastRead++
+	s.reads[s.lastRead] = s.newRead(keys)
+	return s.lastRead, api.OK
+}
 
 // Ask asks for a key (P4).
-func (s *Store) Ask(read int, key string) api.Errno { return api.OK }
+func (s *Store) Ask(read int, key string) api.Errno {
+	found, ok := s.findRead(read)
+	if !ok {
+		return api.ErrNone
+	}
+	return found.ask(key)
+}
 
 // Finish tells the answers (P5).
 func (s *Store) Finish(read int) ([]api.Answer, int, api.Errno) { return nil, 0, api.OK }
@@ -113,16 +133,32 @@ func (s *Store) newWrite(number int, items []api.Item) *write {
 	return w
 }
 
-// find lets the mutex go before the write is worked on, so that a long look at one write stops no other.
-func (s *Store) find(number int) (*write, bool) {
+func (s *Store) newRead(keys []string) *read {
+	r := &read{questions: map[string]*question{}}
+	for _, key := range keys {
+		r.add(key, s.parts[s.partOf(key)])
+	}
+	return r
+}
+
+// findWrite lets the mutex go before the write is worked on, so that a long look at one write stops no other.
+func (s *Store) findWrite(number int) (*write, bool) {
 	s.mu.Lock()
 	defer s.mu.Unlock()
 	found, ok := s.writes[number]
 	return found, ok
 }
 
-func (s *Store) forget(number int) {
+func (s *Store) forgetWrite(number int) {
 	s.mu.Lock()
 	defer s.mu.Unlock()
 	delete(s.writes, number)
+}
+
+// findRead lets the mutex go before the read is worked on, as findWrite does.
+func (s *Store) findRead(number int) (*read, bool) {
+	s.mu.Lock()
+	defer s.mu.Unlock()
+	found, ok := s.reads[number]
+	return found, ok
 }

@@ -142,7 +142,7 @@ func TestCancelP3(t *testing.T) {
 func TestFoundJustBeforeCancelP3(t *testing.T) {
 	s := newStore(t, 2)
 	begin(t, s, 1, "a")
-	found, _ := s.find(1)
+	found, _ := s.findWrite(1)
 	wantErrno(t, "Cancel", s.Cancel(1), api.OK)
 	wantErrno(t, "prepare of what was found ahead", found.prepare(1), api.ErrNone)
 	wantErrno(t, "commit of what was found ahead", found.commit(1), api.ErrNone)
