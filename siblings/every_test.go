@@ -8,6 +8,7 @@ import (
 	"sync"
 	"sync/atomic"
 	"testing"
+	"time"
 	"unsafe"
 
 	"siblings/api"
@@ -25,11 +26,16 @@ func TestAllNumbersP1(t *testing.T) {
 		wantErrno(t, "Prepare on no part of it", s.Prepare(1, n), api.ErrPart)
 		wantErrno(t, "Commit on no part of it", s.Commit(1, n), api.ErrPart)
 		wantErrno(t, "Ask of no read", s.Ask(n, "a"), api.ErrNone)
+		wantNoFinish(t, s, n, api.ErrNone)
 	}
 	wantErrno(t, "Prepare behind all that", s.Prepare(1, 1), api.OK)
 	wantErrno(t, "Commit behind all that", s.Commit(1, 1), api.OK)
 	wantVisible(t, s, "a", 1)
 	wantErrno(t, "Ask behind all that", s.Ask(1, "a"), api.OK)
+	wantFinish(t, s, 1, []api.Answer{{Key: "a", Write: 1, Value: "a"}}, 0, 0)
+	for _, n := range append(numbers, 1) {
+		wantNoFinish(t, s, n, api.ErrNone)
+	}
 }
 
 func TestAllTextsP1(t *testing.T) {
@@ -68,6 +74,7 @@ func TestAllTextsOfReadsP1(t *testing.T) {
 			}
 			wantRead(t, s, []string{text}, next, api.OK)
 			wantErrno(t, "Ask", s.Ask(next, text), api.OK)
+			wantFinish(t, s, next, []api.Answer{{Key: text}}, 0, 0)
 			next++
 		}
 	}
@@ -103,6 +110,8 @@ func TestErrorsOfReadsChangeNothingP1(t *testing.T) {
 	wantErrno(t, "Commit", s.Commit(1, 1), api.OK)
 	wantErrno(t, "Ask again", s.Ask(1, "a"), api.ErrDone)
 	wantErrno(t, "Ask of a key that was refused ahead", s.Ask(1, "c"), api.ErrKey)
+	wantNoFinish(t, s, 1, api.ErrOrder)
+	wantNoFinish(t, s, 2, api.ErrNone)
 	wantCandidate(t, s, 1, "a", 0)
 	wantNotAsked(t, s, 1, "b")
 	for n := 2; n <= 50; n++ {
@@ -111,7 +120,10 @@ func TestErrorsOfReadsChangeNothingP1(t *testing.T) {
 	for range 3 {
 		wantRead(t, s, []string{"a"}, 0, api.ErrFull)
 	}
-	delete(s.reads, 1)
+	wantNoFinish(t, s, 1, api.ErrOrder)
+	wantRead(t, s, []string{"a"}, 0, api.ErrFull)
+	askAll(t, s, 1, "b")
+	wantFinish(t, s, 1, []api.Answer{{Key: "a"}, {Key: "b"}}, 0, 0)
 	wantRead(t, s, []string{"a"}, 51, api.OK)
 }
 
@@ -133,28 +145,27 @@ func text(of []byte) string { return unsafe.String(&of[0], len(of)) }
 
 func TestListAndBytesAreNotKeptP1(t *testing.T) {
 	for _, preparedFirst := range []bool{false, true} {
-		s := newStore(t, 2) // a: 1, b: 0
-		key, value := []byte("a"), []byte("one")
-		items := []api.Item{{Key: text(key), Value: text(value)}, {Key: "b", Value: "two"}}
-		wantWrite(t, s, items, 1, api.OK)
-		if preparedFirst {
-			wantErrno(t, "Prepare", s.Prepare(1, 1), api.OK)
-			wantErrno(t, "Prepare", s.Prepare(1, 0), api.OK)
-		}
-		copy(key, "z")
-		copy(value, "xxx")
-		items[1] = api.Item{Key: "d", Value: "four"}
-		if !preparedFirst {
-			wantErrno(t, "Prepare", s.Prepare(1, 1), api.OK)
-			wantErrno(t, "Prepare", s.Prepare(1, 0), api.OK)
-		}
-		wantErrno(t, "Commit", s.Commit(1, 0), api.OK)
-		wantErrno(t, "Commit", s.Commit(1, 1), api.OK)
-		wantKept(t, s, 1, "a", "one", true)
-		wantKept(t, s, 1, "b", "two", true)
-		wantKept(t, s, 1, "d", "", false)
-		wantVisible(t, s, "a", 1)
-		wantVisible(t, s, "b", 1)
+		inAllModes(t, 2, func(t *testing.T, s *Store) { // a: 1, b: 0
+			key, value := []byte("a"), []byte("one")
+			items := []api.Item{{Key: text(key), Value: text(value)}, {Key: "b", Value: "two"}}
+			wantWrite(t, s, items, 1, api.OK)
+			if preparedFirst {
+				wantErrno(t, "Prepare", s.Prepare(1, 1), api.OK)
+				wantErrno(t, "Prepare", s.Prepare(1, 0), api.OK)
+			}
+			copy(key, "z")
+			copy(value, "xxx")
+			items[1] = api.Item{Key: "d", Value: "four"}
+			if !preparedFirst {
+				wantErrno(t, "Prepare", s.Prepare(1, 1), api.OK)
+				wantErrno(t, "Prepare", s.Prepare(1, 0), api.OK)
+			}
+			want := []api.Answer{{Key: "a", Write: 1, Value: "one"}, {Key: "b", Write: 1, Value: "two"}, {Key: "d"}, {Key: "z"}}
+			commitFor(t, s, 1, "b")
+			wantTold(t, s, []string{"a", "b", "d", "z"}, want, 1, 4) // a, as the sibling that it was
+			commitFor(t, s, 1, "a")
+			wantTold(t, s, []string{"a", "b", "d", "z"}, want, 0, 4)
+		})
 	}
 }
 
@@ -206,23 +217,85 @@ func TestStoresAreApartP1(t *testing.T) {
 	wantErrno(t, "Ask", one.Ask(1, "a"), api.OK)
 	wantCandidate(t, one, 1, "a", 1)
 	wantCandidate(t, two, 1, "a", 0)
+	wantFinish(t, one, 1, []api.Answer{{Key: "a", Write: 1, Value: "a"}}, 0, 0)
+	wantErrno(t, "Ask, the read of the other store being finished", two.Ask(1, "a"), api.ErrDone)
+	wantFinish(t, two, 1, []api.Answer{{Key: "a"}}, 0, 0)
+}
+
+// wantGoroutines gives those that have let go of their WaitGroup the moment that they take to end.
+func wantGoroutines(t *testing.T, most int) {
+	t.Helper()
+	for range 1000 {
+		if runtime.NumGoroutine() <= most {
+			return
+		}
+		time.Sleep(time.Millisecond)
+	}
+	t.Errorf("%d goroutines, %d before", runtime.NumGoroutine(), most)
 }
 
 func TestNoGoroutineIsLeftP1(t *testing.T) {
 	before := runtime.NumGoroutine()
-	s := newStore(t, 2)
-	begin(t, s, 1, "a", "b")
-	begin(t, s, 2, "a")
-	wantErrno(t, "Prepare", s.Prepare(1, 0), api.OK)
-	wantErrno(t, "Prepare", s.Prepare(1, 1), api.OK)
-	wantErrno(t, "Commit", s.Commit(1, 0), api.OK)
-	wantErrno(t, "Cancel", s.Cancel(2), api.OK)
-	wantRead(t, s, []string{"a", "b"}, 1, api.OK)
-	wantErrno(t, "Ask", s.Ask(1, "a"), api.OK)
-	wantErrno(t, "Ask", s.Ask(1, "b"), api.OK)
-	if after := runtime.NumGoroutine(); after > before {
-		t.Errorf("%d goroutines, %d before", after, before)
+	inAllModes(t, 2, func(t *testing.T, s *Store) {
+		begin(t, s, 1, "a", "b")
+		begin(t, s, 2, "a")
+		wantErrno(t, "Prepare", s.Prepare(1, 0), api.OK)
+		wantErrno(t, "Prepare", s.Prepare(1, 1), api.OK)
+		wantErrno(t, "Commit", s.Commit(1, 0), api.OK)
+		wantErrno(t, "Cancel", s.Cancel(2), api.OK)
+		wantRead(t, s, []string{"a", "b"}, 1, api.OK)
+		wantNoFinish(t, s, 1, api.ErrOrder)
+		askAll(t, s, 1, "a", "b")
+		wantFinish(t, s, 1, []api.Answer{{Key: "a", Write: 1, Value: "a"}, {Key: "b", Write: 1, Value: "b"}}, 1, 2)
+		wantGoroutines(t, before)
+	})
+}
+
+// spoil writes over all that an answer shows, its spare room and the bytes of its texts too.
+func spoil(answers []api.Answer) {
+	for _, each := range answers {
+		for _, shown := range []string{each.Key, each.Value} {
+			copy(unsafe.Slice(unsafe.StringData(shown), len(shown)), strings.Repeat("z", len(shown)))
+		}
 	}
+	room := answers[:cap(answers)]
+	for i := range room {
+		room[i] = api.Answer{Key: "spoilt", Write: 99, Value: "spoilt"}
+	}
+}
+
+// wantOwnAnswers finishes two reads that were asked alike, and spoils the answer of one ahead of the other.
+func wantOwnAnswers(t *testing.T, s *Store, keys []string, want []api.Answer, fast, small int) {
+	t.Helper()
+	one, e := s.Read(keys...)
+	wantErrno(t, "Read", e, api.OK)
+	two, e := s.Read(keys...)
+	wantErrno(t, "Read", e, api.OK)
+	askAll(t, s, one, keys...)
+	askAll(t, s, two, keys...)
+	answers, _, _ := s.Finish(one)
+	spare := answers[len(answers):cap(answers)]
+	if slices.ContainsFunc(spare, func(a api.Answer) bool { return a != api.Answer{} }) {
+		t.Errorf("mode %d: behind the answers stands %v", s.mode, spare)
+	}
+	spoil(answers)
+	wantFinish(t, s, two, want, fast, small)
+}
+
+func TestAnswersAreNewMemoryP1(t *testing.T) {
+	inAllModes(t, 2, func(t *testing.T, s *Store) { // a, c: 1; b: 0
+		keys, value := []string{text([]byte("a")), text([]byte("b")), text([]byte("c"))}, text([]byte("value"))
+		want := []api.Answer{{Key: "a", Write: 1, Value: "value"}, {Key: "b", Write: 1, Value: "value"}, {Key: "c", Write: 1, Value: "value"}}
+		prepareAll(t, s, 1, value, keys...)
+		commitFor(t, s, 1, "b")
+		wantOwnAnswers(t, s, keys, want, 2, 3) // by second questions
+		commitFor(t, s, 1, "a")
+		wantOwnAnswers(t, s, keys, want, 0, 3) // by first questions, where the mode brings values with them
+		wantOwnAnswers(t, s, keys[:1], want[:1], 0, 0)
+		if !slices.Equal(keys, []string{"a", "b", "c"}) || value != "value" {
+			t.Errorf("mode %d: what was handed in is %q, %q now", s.mode, keys, value)
+		}
+	})
 }
 
 func TestNumbersAtOnceP3(t *testing.T) {
@@ -343,8 +416,65 @@ func TestAskWhileOthersCommitP4(t *testing.T) {
 	}
 	all.Wait()
 	for n, r := range s.reads {
-		if got := r.questions["a"].candidate; got < n || got > api.MaxReads {
+		if got := r.questions["a"].told.Write; got < n || got > api.MaxReads {
 			t.Errorf("asked behind the commit of write %d, the candidate is %d", n, got)
 		}
+	}
+}
+
+// finishesAtOnce finishes one read again and again at the same time, while others ask, and counts the answers.
+func finishesAtOnce(t *testing.T, s *Store, read int, want []api.Answer) int {
+	var start, all sync.WaitGroup
+	var told atomic.Int64
+	start.Add(1)
+	for range 4 {
+		all.Go(func() {
+			start.Wait()
+			if e := s.Ask(read, "a"); e != api.ErrDone && e != api.ErrNone {
+				t.Errorf("Ask again, or behind a Finish = %d", e)
+			}
+		})
+		all.Go(func() {
+			start.Wait()
+			got, asked, e := s.Finish(read)
+			if e == api.OK {
+				told.Add(1)
+			} else if got != nil || asked != 0 || e != api.ErrNone {
+				t.Errorf("a late Finish = %v, %d, %d", got, asked, e)
+			}
+			if e == api.OK && !slices.Equal(got, want) {
+				t.Errorf("Finish = %v, want %v", got, want)
+			}
+		})
+	}
+	start.Done()
+	all.Wait()
+	return int(told.Load())
+}
+
+func TestFinishAtOnceP5(t *testing.T) {
+	inAllModes(t, 2, func(t *testing.T, s *Store) {
+		prepareAll(t, s, 1, "v", "a", "b")
+		commitFor(t, s, 1, "b")
+		for n := 1; n <= 2000; n++ {
+			wantRead(t, s, []string{"b", "a"}, n, api.OK)
+			askAll(t, s, n, "a", "b")
+			if told := finishesAtOnce(t, s, n, []api.Answer{{Key: "b", Write: 1, Value: "v"}, {Key: "a", Write: 1, Value: "v"}}); told != 1 {
+				t.Fatalf("mode %d: of 4 calls at once %d told the answers, want 1", s.mode, told)
+			}
+		}
+	})
+}
+
+func TestFoundJustBeforeFinishP5(t *testing.T) {
+	s := newStore(t, 2)
+	wantRead(t, s, []string{"a"}, 1, api.OK)
+	askAll(t, s, 1, "a")
+	found, _ := s.findRead(1)
+	wantFinish(t, s, 1, []api.Answer{{Key: "a"}}, 0, 0)
+	commitAll(t, s, 1, "v", "a")
+	wantErrno(t, "ask of what was found ahead", found.ask("a"), api.ErrDone)
+	if s.forgetRead(1) {
+		t.Error("a second Finish that found the read ahead would tell it again")
 	}
 }

@@ -33,6 +33,7 @@ func TestNewIsEmptyP2(t *testing.T) {
 		wantErrno(t, "Commit of no write", s.Commit(1, 0), api.ErrNone)
 		wantErrno(t, "Cancel of no write", s.Cancel(1), api.ErrNone)
 		wantErrno(t, "Ask of no read", s.Ask(1, "a"), api.ErrNone)
+		wantNoFinish(t, s, 1, api.ErrNone)
 		wantVisible(t, s, "a", 0)
 		begin(t, s, 1, "a")
 		wantRead(t, s, []string{"a"}, 1, api.OK)

@@ -9,7 +9,7 @@ import (
 
 func TestReadRefusalsP4(t *testing.T) {
 	eight := []string{"1", "2", "3", "4", "5", "6", "7", "8"}
-	for _, mode := range []api.Mode{api.Fast, api.Small, api.Mixed} {
+	for _, mode := range modes {
 		s, _ := New(3, mode)
 		for _, c := range []struct {
 			keys []string
@@ -71,14 +71,18 @@ func TestReadFullP4(t *testing.T) {
 	begin(t, s, 1, "a")
 }
 
-// A finished read is one that the store has forgotten: it makes room, and its number is not used again.
-func TestForgottenReadMakesRoomP4(t *testing.T) {
+func TestFinishedReadMakesRoomP4(t *testing.T) {
 	s := newStore(t, 2)
 	for n := 1; n <= 50; n++ {
 		wantRead(t, s, []string{"a"}, n, api.OK)
 	}
-	delete(s.reads, 7)
-	delete(s.reads, 50)
+	wantNoFinish(t, s, 7, api.ErrOrder)
+	wantRead(t, s, []string{"a"}, 0, api.ErrFull)
+	for _, n := range []int{7, 50} {
+		askAll(t, s, n, "a")
+		wantFinish(t, s, n, []api.Answer{{Key: "a"}}, 0, 0)
+		wantNoFinish(t, s, n, api.ErrNone) // which makes no room again
+	}
 	wantErrno(t, "Ask of a finished read", s.Ask(7, "a"), api.ErrNone)
 	wantErrno(t, "Ask of a finished read, of no key", s.Ask(50, ""), api.ErrNone)
 	wantRead(t, s, []string{"a"}, 51, api.OK)
@@ -89,7 +93,7 @@ func TestForgottenReadMakesRoomP4(t *testing.T) {
 }
 
 func TestAskP4(t *testing.T) {
-	for _, mode := range []api.Mode{api.Fast, api.Small, api.Mixed} {
+	for _, mode := range modes {
 		s, _ := New(3, mode) // a, d: 1; b: 2; c: 0
 		begin(t, s, 1, "e")
 		wantErrno(t, "Ask of no read", s.Ask(1, "a"), api.ErrNone)

@@ -2,6 +2,7 @@
 package siblings
 
 import (
+	"strings"
 	"sync"
 
 	"siblings/api"
@@ -113,8 +114,21 @@ func (s *Store) Ask(read int, key string) api.Errno {
 	return found.ask(key)
 }
 
-// Finish tells the answers (P5).
-func (s *Store) Finish(read int) ([]api.Answer, int, api.Errno) { return nil, 0, api.OK }
+// Finish tells the answers (P5) and how many second questions they took (P6).
+func (s *Store) Finish(read int) ([]api.Answer, int, api.Errno) {
+	found, ok := s.findRead(read)
+	if !ok {
+		return nil, 0, api.ErrNone
+	}
+	if !found.isAllAsked() {
+		return nil, 0, api.ErrOrder
+	}
+	if !s.forgetRead(read) { // another Finish that found it, too, was ahead
+		return nil, 0, api.ErrNone
+	}
+	answers, asked := found.finish()
+	return answers, asked, api.OK
+}
 
 func (s *Store) partOf(key string) int {
 	sum := 0
@@ -126,15 +140,20 @@ func (s *Store) partOf(key string) int {
 
 func (s *Store) newWrite(number int, items []api.Item) *write {
 	w := &write{number: number, shares: map[int]*share{}}
+	var keys []string
 	for _, item := range items {
-		part := s.partOf(item.Key)
-		w.add(part, s.parts[part], item)
+		// It is copied, because its bytes are the caller's.
+		own := api.Item{Key: strings.Clone(item.Key), Value: strings.Clone(item.Value)}
+		part := s.partOf(own.Key)
+		w.add(part, s.parts[part], own)
+		keys = append(keys, own.Key)
 	}
+	w.siblings = siblingsOf(s.mode, keys)
 	return w
 }
 
 func (s *Store) newRead(keys []string) *read {
-	r := &read{questions: map[string]*question{}}
+	r := &read{numbersOnly: isNumbersOnly(s.mode, keys), questions: map[string]*question{}}
 	for _, key := range keys {
 		r.add(key, s.parts[s.partOf(key)])
 	}
@@ -161,4 +180,13 @@ func (s *Store) findRead(number int) (*read, bool) {
 	defer s.mu.Unlock()
 	found, ok := s.reads[number]
 	return found, ok
+}
+
+// forgetRead tells if the read was still there: of several calls at once that is so for one.
+func (s *Store) forgetRead(number int) bool {
+	s.mu.Lock()
+	defer s.mu.Unlock()
+	_, ok := s.reads[number]
+	delete(s.reads, number)
+	return ok
 }

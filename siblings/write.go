@@ -1,7 +1,6 @@
 package siblings
 
 import (
-	"strings"
 	"sync"
 
 	"siblings/api"
@@ -28,19 +27,19 @@ type share struct {
 type write struct {
 	mu        sync.Mutex
 	number    int
+	siblings  keep.Siblings
 	cancelled bool           // for a call that found the write just before it was cancelled
 	shares    map[int]*share // by part: its parts, and no others
 }
 
-// add gives the write an item on the part with that number. It is copied, because its bytes are the caller's.
+// add gives the write an item, which becomes its own, on the part with that number.
 func (w *write) add(at int, part *keep.Part, item api.Item) {
 	here, ok := w.shares[at]
 	if !ok {
 		here = &share{part: part}
 		w.shares[at] = here
 	}
-	own := api.Item{Key: strings.Clone(item.Key), Value: strings.Clone(item.Value)}
-	here.items = append(here.items, own)
+	here.items = append(here.items, item)
 }
 
 func (w *write) prepare(part int) api.Errno {
@@ -53,7 +52,7 @@ func (w *write) prepare(part int) api.Errno {
 	if here.stage != waiting {
 		return api.ErrDone
 	}
-	here.part.Prepare(w.number, here.items)
+	here.part.Prepare(w.number, here.items, w.siblings)
 	here.stage, here.items = prepared, nil
 	return api.OK
 }
